@@ -1,0 +1,1 @@
+"""Meetonce: a route guide in which nobody parts and meets again."""

@@ -1,0 +1,63 @@
+"""The names, parameters and homes of the interface."""
+
+import importlib
+import inspect
+import unittest
+
+# For each module its functions, and its classes as `__init__`, with the names of their parameters.
+FUNCTIONS = {
+    "nets": {"with_road": "net start end price", "without_road": "net start end"},
+    "prices": {"check_route": "net route", "route_price": "net route", "is_cheapest": "net route",
+               "least_price": "net start goal", "cheap_next_places": "net start goal",
+               "leftmost_route": "net start goal", "price_table": "net goal", "table_shows": "net route table"},
+    "nettext": {"net_text": "net", "read_net": "text"},
+    "routes": {"conflict": "first second", "shared_places": "first second", "is_part": "part route",
+               "nowhere_right": "first second", "beside": "first second"},
+    "wishes": {"check_wishes": "net wishes", "wish_states": "net wishes"},
+    "books": {"images": "book start goal", "climb": "book start goal place"},
+}
+METHODS = {
+    ("nets", "Net"): {"__init__": "widths roads", "row_of": "place", "column_of": "place", "places_of": "row",
+                      "next_places": "place", "previous_places": "place", "price_of": "start end"},
+    ("books", "Book"): {"__init__": "net table", "route": "start goal", "next_place": "start goal",
+                        "previous_place": "start goal", "admissible": "start goal", "next_table": "",
+                        "previous_table": ""},
+}
+
+
+def parameters(function):
+    """The parameters of a function, all of them plain."""
+    listed = inspect.signature(function).parameters.values()
+    return [(each.name, each.kind is each.POSITIONAL_OR_KEYWORD, each.default is each.empty) for each in listed]
+
+
+class InterfaceTest(unittest.TestCase):
+    """The interface of what has landed."""
+
+    def test_functions(self):
+        for module, functions in FUNCTIONS.items():
+            for name, listed in functions.items():
+                with self.subTest(module=module, name=name):
+                    function = getattr(importlib.import_module(f"meetonce.{module}"), name)
+                    self.assertEqual(f"meetonce.{module}", function.__module__)
+                    self.assertEqual([(each, True, True) for each in listed.split()], parameters(function))
+
+    def test_classes(self):
+        for (module, name), methods in METHODS.items():
+            kind = getattr(importlib.import_module(f"meetonce.{module}"), name)
+            self.assertEqual(f"meetonce.{module}", kind.__module__)
+            for method, listed in methods.items():
+                with self.subTest(name=name, method=method):
+                    own = vars(kind)[method]
+                    self.assertEqual([(each, True, True) for each in listed.split()], parameters(own)[1:])
+
+    def test_parameters_by_name(self):
+        nets = importlib.import_module("meetonce.nets")
+        prices = importlib.import_module("meetonce.prices")
+        net = nets.Net(roads=[(0, 1, 5)], widths=[1, 1])
+        self.assertEqual(5, net.price_of(end=1, start=0))
+        self.assertEqual(7, prices.least_price(goal=1, net=nets.with_road(price=7, end=1, net=net, start=0), start=0))
+
+
+if __name__ == "__main__":
+    unittest.main()

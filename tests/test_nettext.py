@@ -81,9 +81,9 @@ class ReadNetTest(GuideCase):
     def test_wrong_road_lines(self):
         for line in ("road 0 1", "road 0 1 5 5", "road", "road 0", "road 0 1 ", "road 0  1 5", "road  0 1 5",
                      "road 0 1  5", " road 0 1 5", "road 0 1 5 ", "road -1 1 5", "road 0 -1 5", "road -0 1 5",
-                     "road 0 -0 5", "road 0 1 -0", "road 00 1 5", "road 0 01 5", "road 0 1 05", "road 0 1 -05", "road +0 1 5",
-                     "road 0 +1 5", "road 0 1 +5", "road 0 1 5_0", "road 0 1_0 5", "road 0 1 x", "road a 1 5",
-                     "road 0 b 5", "Road 0 1 5", "ROAD 0 1 5", "roaD 0 1 5", "road\t0 1 5", "road 0\t1 5",
+                     "road 0 -0 5", "road 0 1 -0", "road 00 1 5", "road 0 01 5", "road 0 1 05", "road 0 1 -05",
+                     "road +0 1 5", "road 0 +1 5", "road 0 1 +5", "road 0 1 5_0", "road 0 1_0 5", "road 0 1 x",
+                     "road a 1 5", "road 0 b 5", "Road 0 1 5", "ROAD 0 1 5", "roaD 0 1 5", "road\t0 1 5", "road 0\t1 5",
                      "road 0 1 5\t", "road 0 1 5.0", "road 0 1 --5", "road 0 1 -", "road 0 1 - 5", "road 0,1,5",
                      "roads 0 1 5", "road 0 1 1e3", "close 0 1", "", " ", "\t", "5", "net"):
             self.wrong(4, lines("net", "row 1", "row 1", line))

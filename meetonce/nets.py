@@ -20,11 +20,8 @@ class Net:
         _check_roads(self._rows, listed)
         self.roads = tuple(sorted(listed))
         self._prices = {(start, end): price for start, end, price in self.roads}
-        self._next = [[] for _ in range(self.size)]
-        self._previous = [[] for _ in range(self.size)]
-        for start, end, _ in self.roads:
-            self._next[start].append(end)
-            self._previous[end].append(start)
+        self._next = _others_by_place(self.size, [(start, end) for start, end, _ in self.roads])
+        self._previous = _others_by_place(self.size, [(end, start) for start, end, _ in self.roads])
         self.least = tuple([_least_prices(self.size, self.roads, goal) for goal in range(self.size)])
         self.pairs = _pairs_in_filling_order(self._rows, self.least)
 
@@ -84,6 +81,14 @@ def _first_place_of_each_row(widths):
     for width in widths[:-1]:
         firsts.append(firsts[-1] + width)
     return tuple(firsts)
+
+
+def _others_by_place(size, steps):
+    """For each place the list of the others of its steps `(place, other)`, in the order of the steps."""
+    found = [[] for _ in range(size)]
+    for place, other in steps:
+        found[place].append(other)
+    return found
 
 
 def _check_roads(rows, roads):

@@ -10,6 +10,8 @@ PACKAGE = pathlib.Path(__file__).resolve().parent.parent / "meetonce"
 ALLOWED = """len range enumerate zip min max sum abs sorted reversed int str bool bytes list tuple dict set frozenset
 isinstance ord repr any all divmod pow getattr hasattr setattr iter next map type super""".split()
 LIBRARY = ("heapq", "math", "itertools", "collections")
+MODIFYING = """append clear extend insert pop remove reverse setdefault update sort add discard
+appendleft popleft extendleft rotate""".split()
 BARRED = re.compile(r"\b(async|register|mro|elements|open|input|law|version_info|with_traceback|add_note|compile|eval"
                     r"|exec|vars|globals|locals|typing|enum|namedtuple|dataclass)\b|_wall")
 
@@ -27,6 +29,19 @@ def trees():
 def imports_of(tree):
     """The imports at the top of a file."""
     return [node for node in ast.walk(tree) if isinstance(node, (ast.Import, ast.ImportFrom))]
+
+
+def reads_a_field(node):
+    """True if an attribute is read in the expression, other than as a method that is called."""
+    called = [each.func for each in ast.walk(node) if isinstance(each, ast.Call)]
+    return any(isinstance(each, ast.Attribute) and each not in called for each in ast.walk(node))
+
+
+def changes_a_field(node):
+    """True if the statement or expression changes an attribute, or what an attribute holds."""
+    if isinstance(node, ast.Call) and isinstance(node.func, ast.Attribute):
+        return node.func.attr in MODIFYING and reads_a_field(node.func.value)
+    return isinstance(getattr(node, "ctx", None), (ast.Store, ast.Del)) and reads_a_field(node)
 
 
 class LanguageTest(unittest.TestCase):
@@ -89,6 +104,13 @@ class LanguageTest(unittest.TestCase):
             for node in ast.walk(tree):
                 if isinstance(node, ast.Name) and node.id in dir(builtins):
                     self.assertIn(node.id, ALLOWED + errors + plain, f"{path.name} {node.lineno}")
+
+    def test_a_loop_over_a_field_changes_no_field(self):
+        for path, tree in trees():
+            for node in ast.walk(tree):
+                if isinstance(node, ast.For) and reads_a_field(node.iter):
+                    changes = [each.lineno for row in node.body for each in ast.walk(row) if changes_a_field(each)]
+                    self.assertEqual([], changes, path.name)
 
     def test_what_asks_for_truth_or_order_takes_a_list(self):
         for path, tree in trees():

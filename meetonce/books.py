@@ -1,6 +1,6 @@
 """Books: one cheapest route for each pair of a net, such that every part of a kept route is kept."""
 
-from meetonce.errors import NoRoute, NotABook, NotAdmissible
+from meetonce.errors import NoRoute, NotABook, NotAdmissible, NotKept
 from meetonce.prices import cheap_next_places
 
 
@@ -95,6 +95,13 @@ def image_of(kept, start, goal, place):
         return place
     before_goal = kept[(place, goal)][-2]
     return kept[(start, before_goal)][1]
+
+
+def check_kept(book, routes):
+    """Raise NotKept for the first of the routes that the book does not keep."""
+    for index, route in enumerate(routes):
+        if route not in book:
+            raise NotKept(index)
 
 
 def images(book, start, goal):

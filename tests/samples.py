@@ -6,7 +6,9 @@ The reference answers know a net only by its widths and its roads, so that they 
 import random
 import unittest
 
+from meetonce.books import Book
 from meetonce.errors import GuideError
+from meetonce.nets import Net
 
 # Two cheapest routes from 0 to 3.
 DIAMOND = ((1, 2, 1), ((0, 1, 5), (0, 2, 5), (1, 3, 4), (2, 3, 4)))
@@ -89,6 +91,62 @@ def random_routes_of_a_book(rng, widths, roads):
     return kept
 
 
+def books_of(widths, roads, most=150):
+    """The routes of all books, by the first words of point 23, or None if there are more than `most` books.
+
+    Each book is the tuple of its routes in filling order.
+    """
+    cheapest = cheapest_of(widths, roads)
+    found = [{}]
+    for ends in pairs_of(widths, roads):
+        found = [{**kept, ends: route} for kept in found for route in cheapest[ends]
+                 if all(kept[(part[0], part[-1])] == part for part in parts_of(route) if 1 < len(part) < len(route))]
+        if len(found) > most:
+            return None
+    return [tuple(kept.values()) for kept in found]
+
+
+def small_nets(seed, count, least=6, most=150, **limits):
+    """Nets with `least` to `most` books: a list of `(widths, roads, books)`, the books as in `books_of`."""
+    rng = random.Random(seed)
+    found = []
+    while len(found) < count:
+        widths, roads = random_net(rng, **{"most_rows": 6, **limits})
+        books = books_of(widths, roads, most)
+        if books is not None and len(books) >= least:
+            found.append((widths, roads, books))
+    return found
+
+
+def book_from(net, routes):
+    """The book that keeps just these routes."""
+    return Book(net, table_from(net.size, {(route[0], route[-1]): route for route in routes}))
+
+
+def all_books(widths, roads):
+    """All books of a net with few books."""
+    net = Net(widths, roads)
+    return [book_from(net, routes) for routes in books_of(widths, roads)]
+
+
+def left_of(first, second):
+    """True if the first tuple of routes is nowhere right of the second one, by the words of points 19 and 31."""
+    return all(place <= other for route, another in zip(first, second) for place, other in zip(route, another))
+
+
+def keeps(routes, wish):
+    """True if one of the routes is the wish, or the wish is one place."""
+    return len(wish) == 1 or tuple(wish) in routes
+
+
+def some_parts(rng, routes, most=4):
+    """Up to `most` parts of the routes, some of them lists, some of one place; those of one book fit together."""
+    if not routes:
+        return []
+    parts = [rng.choice(parts_of(rng.choice(routes))) for _ in range(rng.randint(0, most))]
+    return [rng.choice([list, tuple])(part) for part in parts]
+
+
 def table_from(size, kept, at=1):
     """The table of the second places (or of those with another index) of the routes that are kept."""
     table = [[None] * size for _ in range(size)]
@@ -122,6 +180,27 @@ def random_nets(seed, count, **limits):
     """A list of such nets, the same ones every time."""
     rng = random.Random(seed)
     return [random_net(rng, **limits) for _ in range(count)]
+
+
+def deep_list(value):
+    """The value with lists in the place of tuples, at every depth."""
+    return [deep_list(each) for each in value] if isinstance(value, (list, tuple)) else value
+
+
+def deep_tuple(value):
+    """The value with tuples in the place of lists, at every depth."""
+    return tuple(deep_tuple(each) for each in value) if isinstance(value, (list, tuple)) else value
+
+
+def spoil(value):
+    """Change every list within the value."""
+    if isinstance(value, (list, tuple)):
+        for each in value:
+            spoil(each)
+    if isinstance(value, list):
+        value.reverse()
+        value.append(0)
+        del value[:1]
 
 
 class GuideCase(unittest.TestCase):

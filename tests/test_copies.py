@@ -11,30 +11,9 @@ from meetonce.prices import (cheap_next_places, check_route, is_cheapest, leftmo
                              route_price, table_shows)
 from meetonce.routes import beside, conflict, is_part, nowhere_right, shared_places
 from meetonce.wishes import check_wishes, wish_states
-from tests.samples import DIAMOND, LADDER, GuideCase
+from tests.samples import DIAMOND, LADDER, GuideCase, deep_list, deep_tuple, spoil
 
 NO = None
-
-
-def deep_list(value):
-    """The value with lists in the place of tuples, at every depth."""
-    return [deep_list(each) for each in value] if isinstance(value, (list, tuple)) else value
-
-
-def deep_tuple(value):
-    """The value with tuples in the place of lists, at every depth."""
-    return tuple(deep_tuple(each) for each in value) if isinstance(value, (list, tuple)) else value
-
-
-def spoil(value):
-    """Change every list within the value."""
-    if isinstance(value, (list, tuple)):
-        for each in value:
-            spoil(each)
-    if isinstance(value, list):
-        value.reverse()
-        value.append(0)
-        del value[:1]
 
 
 def book_table():

@@ -4,31 +4,43 @@ import importlib
 import inspect
 import unittest
 
-# For each module its functions, and its classes as `__init__`, with the names of their parameters.
+# For each module its functions, and for each class its methods, with their parameters as they are written.
 FUNCTIONS = {
-    "nets": {"with_road": "net start end price", "without_road": "net start end"},
-    "prices": {"check_route": "net route", "route_price": "net route", "is_cheapest": "net route",
-               "least_price": "net start goal", "cheap_next_places": "net start goal",
-               "leftmost_route": "net start goal", "price_table": "net goal", "table_shows": "net route table"},
+    "nets": {"with_road": "net, start, end, price", "without_road": "net, start, end"},
+    "prices": {"check_route": "net, route", "route_price": "net, route", "is_cheapest": "net, route",
+               "least_price": "net, start, goal", "cheap_next_places": "net, start, goal",
+               "leftmost_route": "net, start, goal", "price_table": "net, goal", "table_shows": "net, route, table"},
     "nettext": {"net_text": "net", "read_net": "text"},
-    "routes": {"conflict": "first second", "shared_places": "first second", "is_part": "part route",
-               "nowhere_right": "first second", "beside": "first second"},
-    "wishes": {"check_wishes": "net wishes", "wish_states": "net wishes"},
-    "books": {"images": "book start goal", "climb": "book start goal place"},
+    "routes": {"conflict": "first, second", "shared_places": "first, second", "is_part": "part, route",
+               "nowhere_right": "first, second", "beside": "first, second"},
+    "wishes": {"check_wishes": "net, wishes", "wish_states": "net, wishes"},
+    "books": {"images": "book, start, goal", "climb": "book, start, goal, place"},
+    "filling": {"fill": "net, wishes=(), *, choices=()", "choices_of": "book, wishes=()"},
+    "order": {"is_left": "first, second", "leftmost": "net, wishes=()", "rightmost": "net, wishes=()",
+              "meet_of": "books", "join_of": "books"},
+    "intervals": {"interval_of": "net, wishes=()", "between": "interval, *, choices=()", "clamp": "interval, book",
+                  "common": "first, second", "possible": "net, wishes, route", "follows": "net, wishes, route"},
+    "changes": {"amend": "book, net, wishes=()", "losses": "book, net, wishes=()",
+                "turn": "book, start, goal, place, *, wishes=()"},
+    "tables": {"tables_of": "book", "judge": "net, next_table, previous_table, least_table"},
 }
 METHODS = {
-    ("nets", "Net"): {"__init__": "widths roads", "row_of": "place", "column_of": "place", "places_of": "row",
-                      "next_places": "place", "previous_places": "place", "price_of": "start end"},
-    ("books", "Book"): {"__init__": "net table", "route": "start goal", "next_place": "start goal",
-                        "previous_place": "start goal", "admissible": "start goal", "next_table": "",
+    ("nets", "Net"): {"__init__": "widths, roads", "row_of": "place", "column_of": "place", "places_of": "row",
+                      "next_places": "place", "previous_places": "place", "price_of": "start, end"},
+    ("books", "Book"): {"__init__": "net, table", "route": "start, goal", "next_place": "start, goal",
+                        "previous_place": "start, goal", "admissible": "start, goal", "next_table": "",
                         "previous_table": ""},
+    ("intervals", "Interval"): {"__init__": "lower, upper", "sure_routes": "", "single": ""},
+    ("signs", "Signpost"): {"__init__": "book, place", "__call__": "goal"},
+    ("letters", "Relay"): {"__init__": "book", "issue": "book", "deliver": "version, place", "version_at": "place",
+                           "in_use": "", "settled": "", "next_place": "place, goal", "walk": "start, goal",
+                           "bounds": "start, goal"},
 }
 
 
 def parameters(function):
-    """The parameters of a function, all of them plain."""
-    listed = inspect.signature(function).parameters.values()
-    return [(each.name, each.kind is each.POSITIONAL_OR_KEYWORD, each.default is each.empty) for each in listed]
+    """The parameters of a function as they are written, without the brackets."""
+    return str(inspect.signature(function))[1:-1]
 
 
 class InterfaceTest(unittest.TestCase):
@@ -40,7 +52,8 @@ class InterfaceTest(unittest.TestCase):
                 with self.subTest(module=module, name=name):
                     function = getattr(importlib.import_module(f"meetonce.{module}"), name)
                     self.assertEqual(f"meetonce.{module}", function.__module__)
-                    self.assertEqual([(each, True, True) for each in listed.split()], parameters(function))
+                    self.assertTrue(inspect.isfunction(function))
+                    self.assertEqual(listed, parameters(function))
 
     def test_classes(self):
         for (module, name), methods in METHODS.items():
@@ -49,7 +62,7 @@ class InterfaceTest(unittest.TestCase):
             for method, listed in methods.items():
                 with self.subTest(name=name, method=method):
                     own = vars(kind)[method]
-                    self.assertEqual([(each, True, True) for each in listed.split()], parameters(own)[1:])
+                    self.assertEqual(f"self, {listed}" if listed else "self", parameters(own))
 
     def test_parameters_by_name(self):
         nets = importlib.import_module("meetonce.nets")

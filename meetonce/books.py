@@ -97,6 +97,15 @@ def image_of(kept, start, goal, place):
     return kept[(start, before_goal)][1]
 
 
+def book_of(net, routes):
+    """The book that keeps these routes; there is one for each pair, and those of one place do not matter."""
+    table = [[None] * net.size for _ in range(net.size)]
+    for route in routes:
+        if len(route) > 1:
+            table[route[0]][route[-1]] = route[1]
+    return Book(net, table)
+
+
 def check_kept(book, routes):
     """Raise NotKept for the first of the routes that the book does not keep."""
     for index, route in enumerate(routes):

@@ -2,7 +2,7 @@
 
 from meetonce.books import check_kept
 from meetonce.errors import Forced, NotAdmissible, WrongNet
-from meetonce.filling import filled
+from meetonce.filling import leftmost_that_keeps
 from meetonce.wishes import check_wishes, reason_against
 
 
@@ -10,7 +10,7 @@ def amend(book, net, wishes=()):
     """The leftmost book of the net that keeps the wishes and all surviving routes of the given book."""
     checked = _check_change(book, net, wishes)
     surviving = [route for route, reason in _reasons(book, net, checked) if reason is None]
-    return _leftmost_that_keeps(net, list(checked) + surviving)
+    return leftmost_that_keeps(net, list(checked) + surviving)
 
 
 def losses(book, net, wishes=()):
@@ -32,11 +32,6 @@ def _reasons(book, net, wishes):
     return [(route, reason_against(net, awake, route)) for route in book.routes]
 
 
-def _leftmost_that_keeps(net, routes):
-    """The leftmost book that keeps the routes, which are known to be cheapest and to fit together."""
-    return filled(net, routes, lambda start, goal, places: places[0])
-
-
 def turn(book, start, goal, place, *, wishes=()):
     """A book that takes another admissible place at the pair, and changes no other route than it must."""
     _check_turn(book, start, goal, place, wishes)
@@ -44,7 +39,7 @@ def turn(book, start, goal, place, *, wishes=()):
         return book
     candidate = (start,) + book.route(place, goal)
     others = [route for route in book.routes if start not in route or goal not in route]
-    return _leftmost_that_keeps(book.net, others + [candidate])
+    return leftmost_that_keeps(book.net, others + [candidate])
 
 
 def _check_turn(book, start, goal, place, wishes):

@@ -1,6 +1,6 @@
 """Filling: books that keep wishes, made pair by pair in filling order."""
 
-from meetonce.books import Book, admissible_places, check_kept
+from meetonce.books import admissible_places, book_of, check_kept
 from meetonce.wishes import check_wishes
 
 
@@ -47,15 +47,18 @@ def filled(net, wishes, choose):
     """
     settled = wished_places(wishes)
     kept = {(place, place): (place,) for place in range(net.size)}
-    table = [[None] * net.size for _ in range(net.size)]
     for start, goal in net.pairs:
         if (start, goal) in settled:
             place = settled[(start, goal)]
         else:
             place = choose(start, goal, admissible_places(net, kept, start, goal))
-        table[start][goal] = place
         kept[(start, goal)] = (start,) + kept[(place, goal)]
-    return Book(net, table)
+    return book_of(net, list(kept.values()))
+
+
+def leftmost_that_keeps(net, routes):
+    """The leftmost book that keeps the routes, which are known to be cheapest and to fit together."""
+    return filled(net, routes, lambda start, goal, places: places[0])
 
 
 def wished_places(wishes):

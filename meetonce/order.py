@@ -1,7 +1,7 @@
 """Books from left to right: the leftmost and the rightmost one, meets and joins."""
 
 from meetonce.errors import NoBooks, WrongNet
-from meetonce.filling import filled
+from meetonce.filling import filled, leftmost_that_keeps
 from meetonce.routes import nowhere_right
 from meetonce.wishes import check_wishes
 
@@ -26,7 +26,7 @@ def check_nets(books):
 
 def leftmost(net, wishes=()):
     """The book that keeps the wishes and is nowhere right of any other one that keeps them."""
-    return filled(net, check_wishes(net, wishes), lambda start, goal, places: places[0])
+    return leftmost_that_keeps(net, check_wishes(net, wishes))
 
 
 def rightmost(net, wishes=()):

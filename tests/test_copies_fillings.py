@@ -1,9 +1,7 @@
 """Points 2 and 3 for what works with whole books: fillings, intervals, changes, tables, signposts and relays."""
 
-import copy
 import unittest
 
-from meetonce.books import Book
 from meetonce.changes import amend, losses, turn
 from meetonce.errors import NoRoute, NotAdmissible
 from meetonce.filling import choices_of, fill
@@ -13,18 +11,10 @@ from meetonce.nets import Net, with_road
 from meetonce.order import is_left, join_of, leftmost, meet_of, rightmost
 from meetonce.signs import Signpost
 from meetonce.tables import judge, tables_of
-from tests.samples import DIAMOND, LADDER, GuideCase, deep_list, deep_tuple, spoil
+from tests.copies import CopiesTests, facts
+from tests.samples import DIAMOND, LADDER, GuideCase, spoil
 
 NO = None
-
-
-def facts(answer):
-    """What an answer tells, without objects in it."""
-    if isinstance(answer, Book):
-        return ("book", answer.net.widths, answer.net.roads, answer.routes, list(answer), answer.next_table())
-    if isinstance(answer, Interval):
-        return ("interval", facts(answer.lower), facts(answer.upper), answer.sure_routes(), answer.single())
-    return copy.deepcopy(answer)
 
 
 def fill_with(net, wishes, choices):
@@ -62,40 +52,12 @@ def calls():
             (judge, net, *tables_of(book)[:2], [[1] * 7 for _ in range(7)])]
 
 
-class ListsTest(GuideCase):
+class ListsTest(CopiesTests, GuideCase):
     """Point 2."""
 
-    def test_lists_and_tuples_count_the_same(self):
-        for call, *values in calls():
-            with self.subTest(call.__name__):
-                answer = facts(call(*values))
-                for change in (deep_tuple, deep_list, tuple):
-                    changed = [change(value) if isinstance(value, list) else value for value in values]
-                    self.same(answer, facts(call(*changed)))
-
-    def test_arguments_stay_as_they_were_and_may_be_changed(self):
-        for call, *values in calls():
-            with self.subTest(call.__name__):
-                lists = [value for value in values if isinstance(value, list)]
-                inner = [list(value) for value in lists]
-                before = repr(lists)
-                answer = call(*values)
-                told = facts(answer)
-                self.assertEqual(before, repr(lists))
-                self.assertTrue(inner == lists)
-                for value in lists:
-                    spoil(value)
-                self.same(told, facts(answer))
-
-    def test_answers_may_be_changed(self):
-        for (call, *values), (again, *others) in zip(calls(), calls()):
-            with self.subTest(call.__name__):
-                answer = call(*values)
-                told = facts(answer)
-                if isinstance(answer, (list, tuple)):
-                    spoil(answer)
-                self.same(told, facts(call(*values)))
-                self.same(told, facts(again(*others)))
+    def calls(self):
+        """The calls that the shared tests look at."""
+        return calls()
 
     def test_answers_of_a_book_and_an_interval_may_be_changed(self):
         book = fill(Net(*LADDER))

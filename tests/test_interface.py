@@ -23,6 +23,13 @@ FUNCTIONS = {
     "changes": {"amend": "book, net, wishes=()", "losses": "book, net, wishes=()",
                 "turn": "book, start, goal, place, *, wishes=()"},
     "tables": {"tables_of": "book", "judge": "net, next_table, previous_table, least_table"},
+    "pins": {"open_pairs": "book", "loose_pairs": "book, routes", "pins": "book, routes",
+             "another_book": "book, routes", "essence": "book"},
+    "pages": {"next_page": "interval, book", "pages": "interval", "count_pages": "interval, *, limit=1000",
+              "page_number": "interval, book, *, limit=1000"},
+    "lots": {"best_lot": "routes, worths", "lot_holds": "routes, worths, lot, marks"},
+    "mirrors": {"mirrored": "net", "turned": "net", "mirrored_route": "net, route", "turned_route": "net, route",
+                "mirrored_book": "book", "turned_book": "book"},
 }
 METHODS = {
     ("nets", "Net"): {"__init__": "widths, roads", "row_of": "place", "column_of": "place", "places_of": "row",

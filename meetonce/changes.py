@@ -2,21 +2,25 @@
 
 from meetonce.books import check_kept
 from meetonce.errors import Forced, NotAdmissible, WrongNet
-from meetonce.filling import leftmost_that_keeps
+from meetonce.filling import leftmost_that_keeps, wished_places
+from meetonce.prices import is_cheapest, wrong_entry
 from meetonce.wishes import check_wishes, reason_against
 
 
 def amend(book, net, wishes=()):
     """The leftmost book of the net that keeps the wishes and all surviving routes of the given book."""
     checked = _check_change(book, net, wishes)
-    surviving = [route for route, reason in _reasons(book, net, checked) if reason is None]
+    wished = wished_places(checked)
+    surviving = [route for route in book.routes if _survives(net, wished, route)]
     return leftmost_that_keeps(net, list(checked) + surviving)
 
 
 def losses(book, net, wishes=()):
     """The list of the routes of the book that do not survive, each with the reason."""
     checked = _check_change(book, net, wishes)
-    return [(route, reason) for route, reason in _reasons(book, net, checked) if reason is not None]
+    wished = wished_places(checked)
+    awake = list(enumerate(checked))
+    return [(route, reason_against(net, awake, route)) for route in book.routes if not _survives(net, wished, route)]
 
 
 def _check_change(book, net, wishes):
@@ -26,10 +30,16 @@ def _check_change(book, net, wishes):
     return check_wishes(net, wishes)
 
 
-def _reasons(book, net, wishes):
-    """Each route of the book with the reason why it does not survive, or None."""
-    awake = list(enumerate(wishes))
-    return [(route, reason_against(net, awake, route)) for route in book.routes]
+def _survives(net, wished, route):
+    """True if the route is a cheapest route of the net and conflicts with no wish.
+
+    To go through all wishes for each route takes long, so the wishes are given by the second place of their part
+    for each pair: a route conflicts with a wish exactly if it has another second place for one of these pairs.
+    """
+    if wrong_entry(net, route) is not None or not is_cheapest(net, route):
+        return False
+    own = wished_places([route])
+    return all([wished.get(pair, own[pair]) == own[pair] for pair in own])
 
 
 def turn(book, start, goal, place, *, wishes=()):

@@ -16,11 +16,17 @@ def read_net(text):
     lines = text.split("\n")
     if lines[0] != "net":
         raise BadText(1)
-    if len(lines) == 1:
-        raise BadText(2)
+    widths, roads = read_rows_and_roads(lines[1:], 2)
+    return Net(widths, roads)
+
+
+def read_rows_and_roads(lines, first):
+    """The widths and the roads of the lines behind the line `net`; `first` is the number of the first of them."""
+    if not lines:
+        raise BadText(first)
     widths = []
     roads = []
-    for number, line in enumerate(lines[1:], start=2):
+    for number, line in enumerate(lines, start=first):
         width = read_row(line)
         road = read_road(line)
         if width is not None and not roads:
@@ -29,7 +35,7 @@ def read_net(text):
             roads.append(road)
         else:
             raise BadText(number)
-    return Net(widths, roads)
+    return (widths, roads)
 
 
 def _comes_after(road, roads):

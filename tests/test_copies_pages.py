@@ -22,7 +22,8 @@ def calls():
     routes = [[0, 1, 4], [2], [0, 1, 4], [0, 3, 5]]
     whole = interval_of(net)
     lot_routes = [[1, 4, 6], [2, 4, 6], [3, 5, 6], [2, 5, 6], [1, 4, 6]]
-    return [(open_pairs, book), (loose_pairs, book, routes), (loose_pairs, book, []), (pins, book, [list(route) for route in routes]),
+    return [(open_pairs, book), (loose_pairs, book, routes), (loose_pairs, book, []),
+            (pins, book, [list(route) for route in routes]),
             (pins, book, [list(route) for route in book.routes]), (another_book, book, [[0, 1, 4]]),
             (another_book, book, [list(route) for route in book.routes]), (essence, book),
             (next_page, whole, book), (next_page, whole, whole.upper), (count_pages, whole),

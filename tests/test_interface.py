@@ -30,6 +30,14 @@ FUNCTIONS = {
     "lots": {"best_lot": "routes, worths", "lot_holds": "routes, worths, lot, marks"},
     "mirrors": {"mirrored": "net", "turned": "net", "mirrored_route": "net, route", "turned_route": "net, route",
                 "mirrored_book": "book", "turned_book": "book"},
+    "regions": {"band_places": "net, low, high", "band": "net, low, high", "band_book": "book, low, high",
+                "join_bands": "net, cuts, books", "side_places": "net, route, *, left=True",
+                "side": "net, route, *, left=True", "side_book": "book, route, *, left=True",
+                "join_sides": "net, route, left_book, right_book"},
+    "papers": {"holds": "net, paper", "price_paper": "net, route", "wish_paper": "net, wishes, route",
+               "sure_paper": "net, wishes, start, goal", "book_paper": "book", "lot_paper": "routes, worths",
+               "loss_papers": "book, net, wishes=()"},
+    "journal": {"deed_line": "deed", "read_deed": "line", "desk_text": "desk", "read_desk": "text", "replay": "desk"},
 }
 METHODS = {
     ("nets", "Net"): {"__init__": "widths, roads", "row_of": "place", "column_of": "place", "places_of": "row",
@@ -42,6 +50,9 @@ METHODS = {
     ("letters", "Relay"): {"__init__": "book", "issue": "book", "deliver": "version, place", "version_at": "place",
                            "in_use": "", "settled": "", "next_place": "place, goal", "walk": "start, goal",
                            "bounds": "start, goal"},
+    ("desk", "Desk"): {"__init__": "net", "states": "", "wish": "route", "drop": "index", "close": "start, end",
+                       "reopen": "start, end", "reprice": "start, end, price", "turn": "start, goal, place",
+                       "settle": "", "undo": "", "redo": "", "play": "deeds"},
 }
 
 

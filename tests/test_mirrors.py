@@ -40,7 +40,8 @@ def turned_places(widths, route):
 class MirrorsTest(GuideCase):
     """Nets and routes."""
 
-    NETS = ([2], []), ([3, 1], [(0, 3, -2), (2, 3, 7)]), DIAMOND, LADDER, ([1, 4, 2], [(0, 1, 3), (0, 4, -1), (1, 5, 0)])
+    NETS = ([2], []), ([3, 1], [(0, 3, -2), (2, 3,
+                                             7)]), DIAMOND, LADDER, ([1, 4, 2], [(0, 1, 3), (0, 4, -1), (1, 5, 0)])
 
     def test_mirrored_nets(self):
         self.same((0, 1, 1000000), mirrored(Net([1, 1], [(0, 1, 1000000)])).roads[0])

@@ -11,7 +11,8 @@ from meetonce.intervals import Interval, between, interval_of
 from meetonce.nets import Net, with_road, without_road
 from meetonce.order import join_of, leftmost, meet_of
 from meetonce.pages import count_pages, next_page, page_number, pages
-from tests.samples import (DIAMOND, LADDER, GuideCase, all_books, book_from, books_of, cheapest_of, conflict_of, left_of,
+from tests.samples import (DIAMOND, LADDER, GuideCase, all_books, book_from, books_of, cheapest_of, conflict_of,
+                           left_of,
                            pairs_of, small_nets, some_parts)
 
 

@@ -95,7 +95,8 @@ class PinsTest(GuideCase):
 
     def test_routes_that_are_not_kept(self):
         book = fill(Net(*LADDER), [(0, 2, 5, 6), (0, 1, 4)])
-        wrong = [[], (), (0, 2, 4), (0, 4), (6, 5), (7,), (-1,), [FAR], (FAR, -FAR), (0, 0), (0, 1, 4, 5), (0, 2, 5, 6, 6)]
+        wrong = [[], (), (0, 2, 4), (0, 4), (6, 5), (7,), (-1,), [FAR], (FAR, -FAR), (0, 0), (0, 1, 4, 5),
+                 (0, 2, 5, 6, 6)]
         for route in wrong:
             for call in (loose_pairs, pins, another_book):
                 self.refused(NotKept, {"index": 0}, call, book, [route])

@@ -97,6 +97,33 @@ class LanguageTest(unittest.TestCase):
                     name = node.name
                 self.assertNotIn(name, dir(builtins), path.name)
 
+    def test_no_local_name_has_the_name_of_an_import_or_a_class(self):
+        for path, tree in trees():
+            taken = {alias.name for node in imports_of(tree) for alias in node.names}
+            taken |= {node.name for node in tree.body if isinstance(node, ast.ClassDef)}
+            for node in ast.walk(tree):
+                name = node.id if isinstance(node, ast.Name) and isinstance(node.ctx, ast.Store) else None
+                name = node.arg if isinstance(node, ast.arg) else name
+                self.assertNotIn(name, taken, path.name)
+
+    def test_what_a_class_has_is_a_method_or_an_attribute(self):
+        for path, tree in trees():
+            for kind in [node for node in tree.body if isinstance(node, ast.ClassDef)]:
+                methods = [node.name for node in kind.body if isinstance(node, ast.FunctionDef)]
+                fields = [node.attr for node in ast.walk(kind)
+                          if isinstance(node, ast.Attribute) and isinstance(node.ctx, ast.Store)]
+                self.assertEqual([], [name for name in methods if name in fields or methods.count(name) > 1], path.name)
+
+    def test_a_generator_shares_its_name_with_nothing(self):
+        names = [(node.name, any(isinstance(each, (ast.Yield, ast.YieldFrom)) for each in ast.walk(node)))
+                 for _, tree in trees() for node in ast.walk(tree) if isinstance(node, ast.FunctionDef)]
+        for generator in [name for name, yields in names if yields]:
+            self.assertEqual(1, [name for name, _ in names].count(generator))
+            for path, tree in trees():
+                stored = [node for node in ast.walk(tree) if isinstance(node, ast.Name) and node.id == generator
+                          and isinstance(node.ctx, ast.Store)]
+                self.assertEqual([], stored, path.name)
+
     def test_only_listed_builtins_are_used(self):
         errors = [name for name in dir(builtins) if name.endswith("Error")]
         plain = ["None", "True", "False", "NotImplemented"]

@@ -353,6 +353,13 @@ class HoldsTest(GuideCase):
                        ("road", None, None), ("wish", None), ("price", None)):
             self.same(False, holds(net, ("lost", [(0, 1, 3)], (0, 2, 3), reason)))
             self.same(False, holds(net, ("lost", [(0, 1, 3)], (0, 3), reason)))
+        dear = with_road(net, 0, 2, 9)
+        self.same([True, False], [holds(dear, ("lost", [], (0, 2, 3), reason))
+                                  for reason in (("price", (0, 1, 3)), ("price", (0, 1, 3), 1))])
+        self.same([True, False], [holds(net, ("lost", [(0, 1, 3)], (0, 2, 3), reason))
+                                  for reason in (("wish", 0), ("wish", 0, 0))])
+        self.same([True, False], [holds(net, ("lost", [], (0, 3), reason))
+                                  for reason in (("road", 0, 3), ("road", 0, 3, 3))])
 
     def test_any_papers_of_the_right_form(self):
         rng = random.Random(62)
